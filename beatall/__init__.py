@@ -1,0 +1,1 @@
+"""Fewest who beat all others."""
