@@ -8,6 +8,8 @@ NOT_STARTED = -11
 OUT_OF_RANGE = -22
 
 MOST_PLAYERS = 7
+MOST_NEEDED_FOR = 20
+BY_SQUARES = (3, 7)
 START = 0
 
 # How many whole numbers stand behind each call's number, for all 18 calls of the interface.
@@ -58,9 +60,14 @@ def set_size(chosen):
     return len(players_of(chosen))
 
 
+def beaten_sets(league):
+    """For each player the set of all whom that player beat."""
+    return [set_of(beaten_by(league, one)) for one in range(league.players)]
+
+
 def reaches(league):
     """For each player the set of that player and all whom that player beat."""
-    return [set_of([one] + beaten_by(league, one)) for one in range(league.players)]
+    return [losers | (1 << one) for one, losers in enumerate(beaten_sets(league))]
 
 
 def left_by(reached, chosen):
@@ -71,13 +78,63 @@ def left_by(reached, chosen):
     return remaining
 
 
-def first_set(league):
-    """Of the smallest sets that are enough the one with the least number."""
+def fewest_sets(league):
+    """All sets of the fewest players that are enough, rising by their numbers."""
     # The reaches are the same for every set, so they are found once.
     reached = reaches(league)
     enough = [chosen for chosen in range(1 << league.players) if left_by(reached, chosen) == 0]
-    # The sets rise, and of like sizes min keeps the one that came first.
-    return min(enough, key=set_size)
+    fewest = min([set_size(chosen) for chosen in enough])
+    return [chosen for chosen in enough if set_size(chosen) == fewest]
+
+
+def who_takes_most(reached, remaining):
+    taken = [set_size(reach & remaining) for reach in reached]
+    # Of like ones the first is asked for, and index finds that one.
+    return taken.index(max(taken))
+
+
+def one_by_one(league):
+    """The players as they're taken, each the one who takes most of those left, till nobody is."""
+    reached = reaches(league)
+    remaining = left_by(reached, 0)
+    taken = []
+    while remaining != 0:
+        one = who_takes_most(reached, remaining)
+        taken.append(one)
+        remaining = remaining & ~reached[one]
+    return taken
+
+
+def those_over(beaten, chosen):
+    """Who beat all of the chosen, rising; beaten is what beaten_sets tells."""
+    # Nobody beat oneself, so nobody of the chosen is told.
+    return [one for one, losers in enumerate(beaten) if (chosen & ~losers) == 0]
+
+
+def each_has_one_over(league, size):
+    """Whether each set of so many players has somebody over it, as it is if there's no such set."""
+    beaten = beaten_sets(league)
+    sets = [chosen for chosen in range(1 << league.players) if set_size(chosen) == size]
+    return all([len(those_over(beaten, chosen)) > 0 for chosen in sets])
+
+
+def greatest_depth(league):
+    depth = 0
+    # Nobody is over the set that's all, so this ends below how many players there are.
+    while each_has_one_over(league, depth + 1):
+        depth = depth + 1
+    return depth
+
+
+def number_by_squares(players):
+    """The games' number if the lesser won just where both lie the rest of a square apart."""
+    rests = [one * one % players for one in range(players)]
+    number = 0
+    for lesser in range(players):
+        for greater in range(lesser + 1, players):
+            if greater - lesser not in rests:
+                number = number + game_weight(players, lesser, greater)
+    return number
 
 
 def is_missing(league, one):
@@ -86,6 +143,10 @@ def is_missing(league, one):
 
 def has_missing(league, chosen):
     return chosen >= 1 << league.players
+
+
+def counted(players):
+    return [len(players)] + players
 
 
 def answer_start(league, numbers):
@@ -143,17 +204,63 @@ def answer_left(league, numbers):
     chosen = numbers[0]
     if has_missing(league, chosen):
         return [OUT_OF_RANGE]
-    remaining = players_of(left_by(reaches(league), chosen))
-    return [len(remaining)] + remaining
+    return counted(players_of(left_by(reaches(league), chosen)))
 
 
 def answer_fewest(league, numbers):
-    return [set_size(first_set(league))]
+    return [set_size(fewest_sets(league)[0])]
 
 
 def answer_first(league, numbers):
-    chosen = first_set(league)
+    chosen = fewest_sets(league)[0]
     return [chosen] + players_of(chosen)
+
+
+def answer_many(league, numbers):
+    return [len(fewest_sets(league))]
+
+
+def answer_greedy(league, numbers):
+    return counted(one_by_one(league))
+
+
+def answer_over(league, numbers):
+    chosen = numbers[0]
+    if has_missing(league, chosen):
+        return [OUT_OF_RANGE]
+    return counted(those_over(beaten_sets(league), chosen))
+
+
+def answer_any(league, numbers):
+    return [1 if each_has_one_over(league, numbers[0]) else 0]
+
+
+def answer_deep(league, numbers):
+    return [greatest_depth(league)]
+
+
+def answer_squares(league, numbers):
+    players = numbers[0]
+    if players not in BY_SQUARES:
+        return [OUT_OF_RANGE]
+    league.players = players
+    league.number = number_by_squares(players)
+    return [league.number]
+
+
+def answer_needs(league, numbers):
+    size = numbers[0]
+    if size > MOST_NEEDED_FOR:
+        return [OUT_OF_RANGE]
+    return [sum([1 << power for power in range(size + 1)])]
+
+
+def answer_bare(league, numbers):
+    return counted([one for one in range(league.players) if len(beaten_by(league, one)) == 0])
+
+
+def answer_state(league, numbers):
+    return [league.players, league.number]
 
 
 # By the call's number; each takes the league and the call's whole numbers.
@@ -167,6 +274,15 @@ ANSWERERS = (
     answer_left,
     answer_fewest,
     answer_first,
+    answer_many,
+    answer_greedy,
+    answer_over,
+    answer_any,
+    answer_deep,
+    answer_squares,
+    answer_needs,
+    answer_bare,
+    answer_state,
 )
 
 

@@ -9,6 +9,9 @@ MANY, GREEDY, OVER, ANY, DEEP, SQUARES, NEEDS, BARE, STATE = range(9, 18)
 
 TOP = 4294967295
 
+# How many games so many players have.
+GAMES_OF = {1: 0, 2: 1, 3: 3, 4: 6, 5: 10, 6: 15, 7: 21}
+
 # 0 beats 1, 1 beats 2, 2 beats 0.
 RING_OF_3 = 2
 # The league of 7 in which i beats i + 1, i + 2 and i + 4, counted round.
@@ -36,6 +39,18 @@ def last(*calls):
     return say(*calls)[-1]
 
 
+def every_small_league():
+    """Players and games' number of every league of up to four."""
+    return [(players, number) for players in range(1, 5) for number in range(2 ** GAMES_OF[players])]
+
+
+def some_larger_leagues():
+    """A good number of those of five to seven: spread, and the ring of seven with all one game away from it."""
+    steps = ((5, 7), (6, 251), (7, 20011))
+    spread = [(players, number) for players, step in steps for number in range(0, 2 ** GAMES_OF[players], step)]
+    return spread + [(7, RING_OF_7)] + [(7, RING_OF_7 ^ 2 ** place) for place in range(21)]
+
+
 def league(players, number):
     """The pairs (winner, loser) of the league with this games' number."""
     pairs = set()
@@ -52,14 +67,42 @@ def those_left(players, pairs, chosen):
             if one not in chosen and not any((other, one) in pairs for other in chosen)]
 
 
+def those_over(players, pairs, chosen):
+    return [one for one in range(players)
+            if one not in chosen and all((one, other) in pairs for other in chosen)]
+
+
 def told_as(chosen):
     return sum(2 ** one for one in chosen)
 
 
-def first_by_trying(players, pairs):
+def fewest_by_trying(players, pairs):
+    """All sets of as few as are enough."""
     for size in range(players + 1):
         enough = [chosen for chosen in combinations(range(players), size)
                   if not those_left(players, pairs, chosen)]
         if enough:
-            return min(enough, key=told_as)
+            return enough
     raise AssertionError("all of them are always enough")
+
+
+def first_by_trying(players, pairs):
+    return min(fewest_by_trying(players, pairs), key=told_as)
+
+
+def any_by_trying(players, pairs, size):
+    return all(those_over(players, pairs, chosen) for chosen in combinations(range(players), size))
+
+
+def greedy_by_trying(players, pairs):
+    left = set(range(players))
+    taken = []
+    while left:
+        best, most = None, set()
+        for one in range(players):
+            takes = {other for other in left if other == one or (one, other) in pairs}
+            if len(takes) > len(most):
+                best, most = one, takes
+        taken.append(best)
+        left -= most
+    return taken

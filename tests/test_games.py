@@ -1,10 +1,10 @@
-"""Point 1: start, games, turn, beats, wins; and what is answered before a start."""
+"""Point 1: start, games, turn, beats, wins, squares; and what is answered before a start."""
 
 import unittest
 from itertools import combinations
 
 from plain import (ANY, BARE, BEATS, COVERS, DEEP, FEWEST, FIRST, GAMES, GREEDY, LEFT, MANY, NEEDS, OVER,
-                   RING_OF_3, SQUARES, START, STATE, TOP, TURN, WINS, last, league, say)
+                   RING_OF_3, RING_OF_7, SQUARES, START, STATE, TOP, TURN, WINS, last, league, say)
 
 OTHERS = ((GAMES, 0), (TURN, 0, 1), (BEATS, 0, 1), (WINS, 0), (COVERS, 1), (LEFT, 1), (FEWEST,), (FIRST,),
           (MANY,), (GREEDY,), (OVER, 1), (ANY, 1), (DEEP,), (SQUARES, 3), (NEEDS, 1), (BARE,), (STATE,))
@@ -33,12 +33,18 @@ class BeforeStart(unittest.TestCase):
                     self.assertEqual(say((START, refused), call), [[-22], [-11]])
 
     def test_numbers_out_of_range_are_refused_alike(self):
-        for call in ((GAMES, TOP), (TURN, TOP, TOP), (BEATS, TOP, 0), (WINS, TOP), (COVERS, TOP), (LEFT, TOP)):
+        for call in ((GAMES, TOP), (TURN, TOP, TOP), (BEATS, TOP, 0), (WINS, TOP), (COVERS, TOP), (LEFT, TOP),
+                     (OVER, TOP), (ANY, TOP), (SQUARES, TOP), (SQUARES, 0), (NEEDS, 21), (NEEDS, TOP)):
             with self.subTest(call=call):
                 self.assertEqual(say(call), [[-11]])
 
     def test_squares_is_no_start(self):
         self.assertEqual(say((SQUARES, 3), (WINS, 0)), [[-11], [-11]])
+        self.assertEqual(say((START, 0), (SQUARES, 7), (STATE,), (START, 2), (STATE,)),
+                         [[-22], [-11], [-11], [0], [2, 0]])
+
+    def test_what_is_refused_before_a_start_leaves_nothing(self):
+        self.assertEqual(say(*OTHERS, (START, 4), (STATE,))[-2:], [[0], [4, 0]])
 
 
 class Start(unittest.TestCase):
@@ -206,6 +212,69 @@ class Wins(unittest.TestCase):
                 winners = [winner for winner, loser in league(4, number)]
                 told = say((START, 4), (GAMES, number), *[(WINS, one) for one in range(4)])
                 self.assertEqual(told[2:], [[winners.count(one)] for one in range(4)])
+
+
+class Squares(unittest.TestCase):
+    # Who beats whom by squares: the rests are 0 and 1 by 3; 0, 1, 2 and 4 by 7.
+    BY_3 = {(0, 1), (1, 2), (2, 0)}
+    BY_7 = {(one, (one + ahead) % 7) for one in range(7) for ahead in (1, 2, 4)}
+
+    def test_the_games_number(self):
+        self.assertEqual(say((START, 1), (SQUARES, 3), (SQUARES, 7)), [[0], [RING_OF_3], [RING_OF_7]])
+
+    def test_who_beats_whom(self):
+        self.assertEqual(told_pairs(3, (START, 3), (SQUARES, 3)), self.BY_3)
+        self.assertEqual(told_pairs(7, (START, 7), (SQUARES, 7)), self.BY_7)
+
+    def test_the_lesser_wins_just_at_the_rest_of_a_square(self):
+        for players in (3, 7):
+            rests = {one * one % players for one in range(100)}
+            pairs = {(i, j) if j - i in rests else (j, i) for i, j in combinations(range(players), 2)}
+            with self.subTest(players=players):
+                self.assertEqual(told_pairs(players, (START, 1), (SQUARES, players)), pairs)
+
+    def test_the_number_told_makes_the_same_league(self):
+        for players in (3, 7):
+            with self.subTest(players=players):
+                number = last((START, 1), (SQUARES, players))[0]
+                told = say((START, players), (GAMES, number), (STATE,))
+                self.assertEqual(told[2], [players, number])
+                self.assertEqual(last((START, 1), (SQUARES, players), (STATE,)), [players, number])
+
+    def test_any_players_before(self):
+        for players in range(1, 8):
+            for before in ((), ((GAMES, 0),), ((GAMES, 2 ** (players * (players - 1) // 2) - 1),)):
+                calls = ((START, players), *before)
+                with self.subTest(players=players, before=before):
+                    self.assertEqual(say(*calls, (SQUARES, 3), (STATE,))[-2:], [[2], [3, 2]])
+                    self.assertEqual(say(*calls, (SQUARES, 7), (STATE,))[-2:], [[140596], [7, 140596]])
+                    self.assertEqual(told_pairs(3, *calls, (SQUARES, 3)), self.BY_3)
+                    self.assertEqual(told_pairs(7, *calls, (SQUARES, 7)), self.BY_7)
+
+    def test_how_many_there_are_now(self):
+        self.assertEqual(say((START, 7), (SQUARES, 3), (WINS, 2), (WINS, 3), (COVERS, 7), (COVERS, 8))[2:],
+                         [[1], [-2], [1], [-22]])
+        self.assertEqual(say((START, 2), (SQUARES, 7), (WINS, 6), (WINS, 7), (COVERS, 127), (COVERS, 128))[2:],
+                         [[3], [-2], [1], [-22]])
+
+    def test_the_other_calls_see_the_new_league(self):
+        asked = ((GREEDY,), (FEWEST,), (FIRST,), (MANY,), (OVER, 3), (LEFT, 1), (ANY, 2), (DEEP,), (BARE,))
+        self.assertEqual(say((START, 4), (SQUARES, 7), *asked)[2:],
+                         [[3, 0, 1, 2], [3], [7, 0, 1, 2], [28], [1, 6], [3, 3, 5, 6], [1], [2], [0]])
+        self.assertEqual(say((START, 4), (SQUARES, 7), (SQUARES, 3), *asked)[3:],
+                         [[2, 0, 1], [2], [3, 0, 1], [3], [0], [1, 2], [0], [1], [0]])
+
+    def test_neither_3_nor_7(self):
+        for refused in (0, 1, 2, 4, 5, 6, 8, 9, 11, 19, 23, 2 ** 31, 2 ** 32 - 4, TOP):
+            calls = ((START, 4), (GAMES, 37), (SQUARES, refused))
+            with self.subTest(refused=refused):
+                self.assertEqual(say(*calls, (STATE,)), [[0], [6], [-22], [4, 37]])
+                self.assertEqual(told_pairs(4, *calls), league(4, 37))
+
+    def test_games_turn_and_start_behind_it(self):
+        told = say((START, 1), (SQUARES, 3), (GAMES, 7), (STATE,), (GAMES, 8), (SQUARES, 7), (TURN, 0, 3),
+                   (STATE,), (START, 2), (STATE,))
+        self.assertEqual(told, [[0], [2], [3], [3, 7], [-22], [140596], [0], [7, 140592], [0], [2, 0]])
 
 
 if __name__ == "__main__":
